@@ -1,0 +1,95 @@
+"""The refusals of row and ask, in their order, and that a call stands by itself."""
+
+import unittest
+
+from support import ask, asked, as_bytes, row
+from ferryrows import rows
+
+MOST_BYTES = 65536
+MOST_PIECES = 4096
+
+
+class Refusals(unittest.TestCase):
+    def test_the_most_pieces(self):
+        for piece in ["a", "{{", "\u20ac", "\U0001f600", "{.999}"]:
+            text = piece * MOST_PIECES
+            self.assertEqual(row(text), [MOST_PIECES])
+            self.assertEqual(ask("pieces", text), [MOST_PIECES])
+
+    def test_one_piece_too_many(self):
+        for piece in ["a", "{{", "\u20ac", "\U0001f600", "{.999}"]:
+            text = piece * (MOST_PIECES + 1)
+            self.assertEqual(row(text), [-6])
+            self.assertEqual(asked(text), [[-6]] * 9)
+
+    def test_no_row_ahead_of_too_many_pieces(self):
+        for pieces in [MOST_PIECES, MOST_PIECES + 1, 5000]:
+            self.assertEqual(row(b"a" * pieces + b"\x00"), [-5, pieces])
+            self.assertEqual(row(b"a" * pieces + b"{"), [-5, pieces + 1])
+            self.assertEqual(asked(b"a" * pieces + b"\x00"), [[-5]] * 9)
+
+    def test_the_most_bytes_are_read(self):
+        self.assertEqual(row(b"a" * MOST_BYTES), [-6])
+        self.assertEqual(row(b"a" * (MOST_BYTES - 1) + b"\x00"), [-5, MOST_BYTES - 1])
+        self.assertEqual(row(b"a" * (MOST_BYTES - 1) + b"{"), [-5, MOST_BYTES])
+        self.assertEqual(row(b"\x00" * MOST_BYTES), [-5, 0])
+        self.assertEqual(ask(0, b"\x00" * MOST_BYTES), [-5])
+        self.assertEqual(ask(9, b"\x00" * MOST_BYTES), [-1])
+
+    def test_too_many_bytes_ahead_of_all(self):
+        for number in [MOST_BYTES + 1, 100000]:
+            for text in [b"a" * number, b"\x00" * number, b"a" * (number - 1) + b"{"]:
+                self.assertEqual(row(text), [-6])
+                self.assertEqual(asked(text), [[-6]] * 9)
+                self.assertEqual(ask(9, text), [-6])
+                self.assertEqual(ask(4294967295, text), [-6])
+
+    def test_what_above_8(self):
+        for what in [9, 10, 255, 4294967295]:
+            self.assertEqual(ask(what, "ab"), [-1])
+            self.assertEqual(ask(what, ""), [-1])
+        self.assertEqual(ask(8, "ab"), [0])
+
+    def test_what_above_8_ahead_of_no_row_and_of_too_many_pieces(self):
+        for what in [9, 4294967295]:
+            self.assertEqual(ask(what, b"\x00"), [-1])
+            self.assertEqual(ask(what, b"{"), [-1])
+            self.assertEqual(ask(what, b"a" * (MOST_PIECES + 1)), [-1])
+            self.assertEqual(ask(what, b"a" * 5000 + b"\x00"), [-1])
+
+    def test_the_place_stands_behind_no_row_of_row_alone(self):
+        for text, place in [(b"\x00", 0), (b"ab{x", 3), (b"{+1", 3), (b"\xc2\x80", 1)]:
+            self.assertEqual(row(text), [-5, place])
+            self.assertEqual(asked(text), [[-5]] * 9)
+
+
+class EachCallByItself(unittest.TestCase):
+    def test_nothing_is_kept_from_one_call_to_the_next(self):
+        texts = ["", "a b{+1}", "{-1}{+1}", b"\x00", b"{+", "{.1}{.1}", "{-1}", "{+1}", "a" * 5000]
+        alone = [(row(text), asked(text), ask(9, text)) for text in texts]
+        for first in texts:
+            for number, second in enumerate(texts):
+                row(first)
+                asked(first)
+                self.assertEqual((row(second), asked(second), ask(9, second)), alone[number])
+
+    def test_an_answer_that_is_changed_changes_no_later_one(self):
+        for text in ["", "a", "a" * 5000, b"\x00", b"a" * 70000]:
+            given = as_bytes(text)
+            for call in [lambda: rows.row(given), lambda: rows.ask(0, given), lambda: rows.ask(9, given)]:
+                answer = call()
+                before = list(answer)
+                answer.append(77)
+                answer[0] = 77
+                self.assertEqual(call(), before)
+
+    def test_no_call_nests_with_its_input(self):
+        nested = "".join("{+%d}" % n for n in range(1, 1000)) + "".join("{-%d}" % n for n in range(999, 0, -1))
+        self.assertEqual(row(nested), [1998])
+        self.assertEqual(ask("paired", nested), [1])
+        self.assertEqual(row("a" * 4096), [4096])
+        self.assertEqual(ask("words", "a " * 2048), [2048])
+
+
+if __name__ == "__main__":
+    unittest.main()
