@@ -1,5 +1,9 @@
-"""Rows of characters and tags: reading their texts and judging them."""
+"""The calls: what is answered of a row's text, or the number that refuses it."""
 
+from ferryrows.pieces import CHARACTER, Fault, find_halves, is_of_word, is_sign
+from ferryrows.pieces import only_tags, read_pieces, rename_numbers, write_pieces
+
+DONE = 0
 WRONG_NUMBER = -1
 NO_ROW = -5
 TOO_LARGE = -6
@@ -7,135 +11,13 @@ TOO_LARGE = -6
 MOST_BYTES = 65536
 MOST_PIECES = 4096
 
-# A piece is a tuple of its kind and its number. A tag's kind is the byte that
-# stands for it in the text, so that reading needs no table of kinds.
-CHARACTER = 0
-OPENING = 0x2B
-CLOSING = 0x2D
-ALONE = 0x2E
 
-BLANK = 0x20
-NOUGHT = 0x30
-ONE = 0x31
-NINE = 0x39
-LEFT_BRACE = 0x7B
-RIGHT_BRACE = 0x7D
-
-# Below every byte, so that the end of a text lies outside every span.
-NO_BYTE = -1
-
-TAIL_BYTES = (0x80, 0xBF)
-
-# Behind these first bytes not every tail byte goes on: C2 would give 80H to
-# 9FH, E0 and F0 overlong forms, ED D800H to DFFFH, F4 numbers past 10FFFFH.
-SECOND_BYTES = {
-    0xC2: (0xA0, 0xBF),
-    0xE0: (0xA0, 0xBF),
-    0xED: (0x80, 0x9F),
-    0xF0: (0x90, 0xBF),
-    0xF4: (0x80, 0x8F),
-}
-
-SIGNS = (
-    (0x21, 0x2F),
-    (0x3A, 0x40),
-    (0x5B, 0x60),
-    (0x7B, 0x7E),
-    (0xA1, 0xBF),
-    (0xD7, 0xD7),
-    (0xF7, 0xF7),
-    (0x2010, 0x206F),
-    (0x3000, 0x303F),
-)
-
-
-class Fault(Exception):
-    def __init__(self, place):
-        self.place = place
-
-
-class Scan:
-    def __init__(self, t):
-        self.t = t
-        self.at = 0
-
-    def peek(self):
-        return self.t[self.at] if self.at < len(self.t) else NO_BYTE
-
-    # Whoever takes a byte names just the bytes with which some row's text
-    # goes on; so the first one that can't be taken is the fault.
-    def take(self, low, high):
-        byte = self.peek()
-        if not low <= byte <= high:
-            raise Fault(self.at)
-        self.at += 1
-        return byte
-
-
-# Either the pieces of a row, or the whole answer that refuses it.
+# Either the pieces of a row, or the whole answer by which row refuses it: the
+# other calls answer the refusal's number alone, without the fault's place.
 class Reading:
     def __init__(self, pieces, refusal):
         self.pieces = pieces
         self.refusal = refusal
-
-
-def tail_length(first):
-    if first < 0xE0:
-        return 1
-    return 2 if first < 0xF0 else 3
-
-
-def with_tail_byte(code, byte):
-    return code * 64 + byte % 64
-
-
-def take_character(scan):
-    if scan.peek() < 0x80:
-        return scan.take(0x20, 0x7E)
-    first = scan.take(0xC2, 0xF4)
-    tail = tail_length(first)
-    span = SECOND_BYTES.get(first, TAIL_BYTES)
-    code = with_tail_byte(first & (0x3F >> tail), scan.take(span[0], span[1]))
-    for step in range(1, tail):
-        # Only before a last byte can ten set bits stand here; BE and BF would
-        # then give low 16 bits of FFFEH and FFFFH.
-        high = 0xBD if code % 0x400 == 0x3FF else 0xBF
-        code = with_tail_byte(code, scan.take(0x80, high))
-    return code
-
-
-def take_number(scan):
-    number = scan.take(ONE, NINE) - NOUGHT
-    while number < 100 and NOUGHT <= scan.peek() <= NINE:
-        number = number * 10 + scan.take(NOUGHT, NINE) - NOUGHT
-    return number
-
-
-def take_tag(scan):
-    kind = scan.peek()
-    if kind not in (OPENING, CLOSING, ALONE):
-        raise Fault(scan.at)
-    scan.take(kind, kind)
-    number = take_number(scan)
-    scan.take(RIGHT_BRACE, RIGHT_BRACE)
-    return (kind, number)
-
-
-def take_piece(scan):
-    if scan.peek() != LEFT_BRACE:
-        return (CHARACTER, take_character(scan))
-    scan.take(LEFT_BRACE, LEFT_BRACE)
-    if scan.peek() == LEFT_BRACE:
-        return (CHARACTER, scan.take(LEFT_BRACE, LEFT_BRACE))
-    return take_tag(scan)
-
-
-def read_pieces(t):
-    scan = Scan(t)
-    pieces = []
-    while scan.peek() != NO_BYTE:
-        pieces.append(take_piece(scan))
-    return pieces
 
 
 # is_barred: whether the call's own -1 holds, which stands ahead of -5.
@@ -153,48 +35,16 @@ def read_row(t, is_barred):
     return Reading(pieces, [])
 
 
-# The left and the right halves' numbers, or None of a row that isn't straight.
-def find_halves(pieces):
-    lefts = []
-    pile = []
-    last_kinds = {}
-    for kind, number in pieces:
-        if kind == CHARACTER:
-            continue
-        # A number may stand again only as the close of its open.
-        if number in last_kinds and (last_kinds[number] != OPENING or kind != CLOSING):
-            return None
-        last_kinds[number] = kind
-        if kind == OPENING:
-            pile.append(number)
-        elif kind == CLOSING and len(pile) == 0:
-            lefts.append(number)
-        elif kind == CLOSING and pile.pop() != number:
-            return None
-    return (lefts, pile)
-
-
-def is_sign(code):
-    for low, high in SIGNS:
-        if low <= code <= high:
-            return True
-    return False
-
-
-def is_of_word(piece):
-    return piece[0] == CHARACTER and piece[1] != BLANK and not is_sign(piece[1])
-
-
 def count_pieces(pieces):
     return len(pieces)
 
 
 def count_characters(pieces):
-    return len([kind for kind, number in pieces if kind == CHARACTER])
+    return len(pieces) - len(only_tags(pieces))
 
 
 def count_tags(pieces):
-    return len(pieces) - count_characters(pieces)
+    return len(only_tags(pieces))
 
 
 def count_words(pieces):
@@ -258,7 +108,24 @@ def row(t):
 def ask(what, t):
     reading = read_row(t, what >= len(QUESTIONS))
     if len(reading.refusal) > 0:
-        # Only row tells the fault's place behind -5.
         return reading.refusal[:1]
     answer = QUESTIONS[what]
     return [answer(reading.pieces)]
+
+
+def answer_bytes(text):
+    return [DONE, len(text)] + text
+
+
+def form(t):
+    reading = read_row(t, False)
+    if len(reading.refusal) > 0:
+        return reading.refusal[:1]
+    return answer_bytes(write_pieces(rename_numbers(reading.pieces)))
+
+
+def tags(t):
+    reading = read_row(t, False)
+    if len(reading.refusal) > 0:
+        return reading.refusal[:1]
+    return answer_bytes(write_pieces(only_tags(reading.pieces)))

@@ -1,5 +1,7 @@
 """How the tests call the program, and what they hold every call to."""
 
+import re
+
 from ferryrows import rows
 
 WHATS = {
@@ -33,6 +35,27 @@ def called(function, *arguments):
     return answer
 
 
+def answered(text):
+    """What is answered of a text that is told: 0, how many bytes, and they."""
+    return [0, len(as_bytes(text)), *as_bytes(text)]
+
+
+def is_character(code):
+    """Whether the document counts a number among the characters."""
+    if code < 0x20 or 0x7F <= code <= 0x9F or 0xD800 <= code <= 0xDFFF:
+        return False
+    return code & 0xFFFF not in (0xFFFE, 0xFFFF)
+
+
+def pieces_of(text):
+    """The pieces of a row, each as its text; the text must be a row's."""
+    return re.findall(r"\{\{|\{[-+.][0-9]+\}|[^{]", text)
+
+
+def tag(kind, number):
+    return f"{{{kind}{number}}}"
+
+
 def row(text):
     return called(rows.row, as_bytes(text))
 
@@ -44,3 +67,11 @@ def ask(what, text):
 def asked(text):
     """What ask answers for each what from 0 to 8, in order."""
     return [ask(what, text) for what in range(9)]
+
+
+def form(text):
+    return called(rows.form, as_bytes(text))
+
+
+def tags(text):
+    return called(rows.tags, as_bytes(text))

@@ -9,13 +9,7 @@ import random
 import re
 import unittest
 
-from support import asked, row
-
-
-def is_character(code):
-    if code < 0x20 or 0x7F <= code <= 0x9F or 0xD800 <= code <= 0xDFFF:
-        return False
-    return code & 0xFFFF not in (0xFFFE, 0xFFFF)
+from support import asked, is_character, row
 
 
 def piece_texts():

@@ -32,6 +32,10 @@ METHODS = set(
 )
 SPECIAL_METHODS = {"__init__", "__eq__", "__repr__", "__str__", "__len__"}
 NAMES_NOT_USED = set("register mro elements open input version_info with_traceback add_note".split())
+NAMES_NOT_USED.update(
+    "attrgetter breakpoint builtins compile copyright credits delattr dir eval exec exit gc getattr globals "
+    "hasattr help id importlib license locals methodcaller os quit setattr super type vars sys".split()
+)
 WORDS_NOT_USED = re.compile(
     r"\b(type|typing|typing_extensions|enum|Enum|IntEnum|StrEnum|Flag|IntFlag|Generic|Protocol|ABC|ABCMeta"
     r"|namedtuple|NamedTuple|TypedDict|TYPE_CHECKING|abstractmethod)\b|dataclass|overload|contextmanager"
@@ -45,6 +49,12 @@ def bound_names(tree):
     names += [node.name for node in ast.walk(tree) if isinstance(node, (ast.FunctionDef, ast.ClassDef))]
     names += [node.name for node in ast.walk(tree) if isinstance(node, ast.ExceptHandler) and node.name]
     return names
+
+
+def top_names(tree):
+    """Every name that a file defines at its top."""
+    names = [node.targets[0].id for node in tree.body if isinstance(node, ast.Assign)]
+    return names + [node.name for node in tree.body if isinstance(node, (ast.FunctionDef, ast.ClassDef))]
 
 
 class Language(unittest.TestCase):
@@ -114,6 +124,26 @@ class Language(unittest.TestCase):
             self.assertEqual(node.level, 0)
             self.assertRegex(node.module, r"^ferryrows\.")
 
+    def test_imports_come_from_the_file_that_defines_the_name(self):
+        for node in self.every_node(ast.ImportFrom):
+            path = PACKAGE.parent / (node.module.replace(".", "/") + ".py")
+            defined = top_names(ast.parse(path.read_text(encoding="utf-8")))
+            for part in node.names:
+                self.assertIn(part.name, defined)
+                self.assertIsNone(part.asname)
+
+    def test_no_two_files_draw_from_one_another(self):
+        drawn = {}
+        for path in FILES:
+            tree = ast.parse(path.read_text(encoding="utf-8"))
+            modules = [node.module for node in ast.walk(tree) if isinstance(node, ast.ImportFrom)]
+            drawn["ferryrows." + path.stem] = set(modules)
+        while drawn:
+            free = [module for module in drawn if not drawn[module] & set(drawn)]
+            self.assertNotEqual(free, [], f"these draw from one another: {sorted(drawn)}")
+            for module in free:
+                del drawn[module]
+
     def test_names(self):
         for text, tree in self.every_file():
             for name in bound_names(tree):
@@ -137,12 +167,8 @@ class Language(unittest.TestCase):
 
     def test_a_name_is_bound_once_at_a_file_s_top(self):
         for text, tree in self.every_file():
-            names = []
-            for node in tree.body:
-                if isinstance(node, ast.Assign):
-                    names.append(node.targets[0].id)
-                elif isinstance(node, (ast.FunctionDef, ast.ClassDef)):
-                    names.append(node.name)
+            names = top_names(tree)
+            names += [part.name for node in tree.body if isinstance(node, ast.ImportFrom) for part in node.names]
             self.assertEqual(len(names), len(set(names)))
 
     def test_is_stands_beside_none_true_and_false(self):

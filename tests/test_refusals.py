@@ -1,23 +1,33 @@
-"""The refusals of row and ask, in their order, and that a call stands by itself."""
+"""The refusals of the calls over rows, in their order, and that a call stands by itself."""
 
 import unittest
 
-from support import ask, asked, as_bytes, row
+from support import answered, ask, asked, as_bytes, called, form, row, tags
 from ferryrows import rows
 
 MOST_BYTES = 65536
 MOST_PIECES = 4096
+PIECES = ["a", "{{", "\u20ac", "\U0001f600", "{.999}"]
+NO_ROWS = [b"\x00", b"{", b"ab{x", b"{+1", b"{.1000}", b"{-0}", b"\xc2\x80", b"a\n", b"\xff"]
+
+# Every call over one row's text, with the numbers that are handed in ahead of it.
+CALLS = [(rows.row, [])] + [(rows.ask, [what]) for what in range(10)]
+CALLS += [(rows.form, []), (rows.tags, [])]
+
+
+def every_answer(text):
+    return [called(call, *numbers, as_bytes(text)) for call, numbers in CALLS]
 
 
 class Refusals(unittest.TestCase):
     def test_the_most_pieces(self):
-        for piece in ["a", "{{", "\u20ac", "\U0001f600", "{.999}"]:
+        for piece in PIECES:
             text = piece * MOST_PIECES
             self.assertEqual(row(text), [MOST_PIECES])
             self.assertEqual(ask("pieces", text), [MOST_PIECES])
 
     def test_one_piece_too_many(self):
-        for piece in ["a", "{{", "\u20ac", "\U0001f600", "{.999}"]:
+        for piece in PIECES:
             text = piece * (MOST_PIECES + 1)
             self.assertEqual(row(text), [-6])
             self.assertEqual(asked(text), [[-6]] * 9)
@@ -63,25 +73,63 @@ class Refusals(unittest.TestCase):
             self.assertEqual(asked(text), [[-5]] * 9)
 
 
+class RefusalsOfTexts(unittest.TestCase):
+    """The calls that take a row's text and no number."""
+
+    def test_the_most_pieces(self):
+        for piece in PIECES:
+            text = piece * MOST_PIECES
+            is_tag = piece == "{.999}"
+            self.assertEqual(form(text), answered(text.replace("999", "1")))
+            self.assertEqual(tags(text), answered(text if is_tag else ""))
+
+    def test_one_piece_too_many(self):
+        for piece in PIECES:
+            for call in [form, tags]:
+                self.assertEqual(call(piece * (MOST_PIECES + 1)), [-6])
+
+    def test_no_row_alone(self):
+        for text in NO_ROWS:
+            for call in [form, tags]:
+                self.assertEqual(call(text), [-5])
+                self.assertEqual(call(b"a{.1}" + text), [-5])
+
+    def test_no_row_ahead_of_too_many_pieces(self):
+        for text in NO_ROWS:
+            for call in [form, tags]:
+                self.assertEqual(call(b"a" * (MOST_PIECES + 1) + text), [-5])
+
+    def test_the_most_bytes_are_read(self):
+        for call in [form, tags]:
+            self.assertEqual(call(b"a" * MOST_BYTES), [-6])
+            self.assertEqual(call(b"a" * (MOST_BYTES - 1) + b"\x00"), [-5])
+            self.assertEqual(call(b"\x00" * MOST_BYTES), [-5])
+
+    def test_too_many_bytes_ahead_of_all(self):
+        for number in [MOST_BYTES + 1, 100000]:
+            for text in [b"a" * number, b"\x00" * number, b"a" * (number - 1) + b"{"]:
+                for call in [form, tags]:
+                    self.assertEqual(call(text), [-6])
+
+
 class EachCallByItself(unittest.TestCase):
     def test_nothing_is_kept_from_one_call_to_the_next(self):
         texts = ["", "a b{+1}", "{-1}{+1}", b"\x00", b"{+", "{.1}{.1}", "{-1}", "{+1}", "a" * 5000]
-        alone = [(row(text), asked(text), ask(9, text)) for text in texts]
+        alone = [every_answer(text) for text in texts]
         for first in texts:
             for number, second in enumerate(texts):
-                row(first)
-                asked(first)
-                self.assertEqual((row(second), asked(second), ask(9, second)), alone[number])
+                every_answer(first)
+                self.assertEqual(every_answer(second), alone[number])
 
     def test_an_answer_that_is_changed_changes_no_later_one(self):
         for text in ["", "a", "a" * 5000, b"\x00", b"a" * 70000]:
             given = as_bytes(text)
-            for call in [lambda: rows.row(given), lambda: rows.ask(0, given), lambda: rows.ask(9, given)]:
-                answer = call()
+            for call, numbers in CALLS:
+                answer = call(*numbers, given)
                 before = list(answer)
                 answer.append(77)
                 answer[0] = 77
-                self.assertEqual(call(), before)
+                self.assertEqual(call(*numbers, given), before)
 
     def test_no_call_nests_with_its_input(self):
         nested = "".join("{+%d}" % n for n in range(1, 1000)) + "".join("{-%d}" % n for n in range(999, 0, -1))
@@ -89,6 +137,8 @@ class EachCallByItself(unittest.TestCase):
         self.assertEqual(ask("paired", nested), [1])
         self.assertEqual(row("a" * 4096), [4096])
         self.assertEqual(ask("words", "a " * 2048), [2048])
+        self.assertEqual(form(nested), answered(nested))
+        self.assertEqual(tags(nested), answered(nested))
 
 
 if __name__ == "__main__":
