@@ -7,6 +7,11 @@ OPENING = 0x2B
 CLOSING = 0x2D
 ALONE = 0x2E
 
+# The groups of units, by the numbers that tell them in an answer.
+WORD = 0
+SIGN = 1
+TAG = 2
+
 BLANK = 0x20
 NOUGHT = 0x30
 ONE = 0x31
@@ -201,5 +206,34 @@ def is_sign(code):
     return False
 
 
-def is_of_word(piece):
-    return piece[0] == CHARACTER and piece[1] != BLANK and not is_sign(piece[1])
+def is_of_word(kind, number):
+    return kind == CHARACTER and number != BLANK and not is_sign(number)
+
+
+# Its text is its characters in UTF-8, or, of a tag, its number's place.
+class Unit:
+    def __init__(self, group, tag_kind, text):
+        self.group = group
+        self.tag_kind = tag_kind
+        self.text = text
+
+
+def make_unit(kind, number):
+    if kind != CHARACTER:
+        return Unit(TAG, (OPENING, CLOSING, ALONE).index(kind), write_number(number))
+    return Unit(SIGN if is_sign(number) else WORD, 0, write_character(number))
+
+
+# Found in the form, where a tag's number is its place: so the units hang on no
+# number that stands in the text.
+def find_units(pieces):
+    units = []
+    was_of_word = False
+    for kind, number in rename_numbers(pieces):
+        now_of_word = is_of_word(kind, number)
+        if now_of_word and was_of_word:
+            units[-1].text.extend(write_character(number))
+        elif kind != CHARACTER or number != BLANK:
+            units.append(make_unit(kind, number))
+        was_of_word = now_of_word
+    return units

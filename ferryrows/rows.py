@@ -1,10 +1,11 @@
 """The calls: what is answered of a row's text, or the number that refuses it."""
 
-from ferryrows.pieces import CHARACTER, Fault, find_halves, is_of_word, is_sign
+from ferryrows.pieces import WORD, Fault, find_halves, find_units
 from ferryrows.pieces import only_tags, read_pieces, rename_numbers, write_pieces
 
 DONE = 0
 WRONG_NUMBER = -1
+NOT_THERE = -2
 NO_ROW = -5
 TOO_LARGE = -6
 
@@ -48,22 +49,11 @@ def count_tags(pieces):
 
 
 def count_words(pieces):
-    words = 0
-    was_of_word = False
-    for piece in pieces:
-        now_of_word = is_of_word(piece)
-        if now_of_word and not was_of_word:
-            words += 1
-        was_of_word = now_of_word
-    return words
-
-
-def count_signs(pieces):
-    return len([number for kind, number in pieces if kind == CHARACTER and is_sign(number)])
+    return len([found for found in find_units(pieces) if found.group == WORD])
 
 
 def count_units(pieces):
-    return count_words(pieces) + count_signs(pieces) + count_tags(pieces)
+    return len(find_units(pieces))
 
 
 def tell_straight(pieces):
@@ -113,19 +103,39 @@ def ask(what, t):
     return [answer(reading.pieces)]
 
 
-def answer_bytes(text):
-    return [DONE, len(text)] + text
+def with_length(text):
+    return [len(text)] + text
 
 
 def form(t):
     reading = read_row(t, False)
     if len(reading.refusal) > 0:
         return reading.refusal[:1]
-    return answer_bytes(write_pieces(rename_numbers(reading.pieces)))
+    return [DONE] + with_length(write_pieces(rename_numbers(reading.pieces)))
 
 
 def tags(t):
     reading = read_row(t, False)
     if len(reading.refusal) > 0:
         return reading.refusal[:1]
-    return answer_bytes(write_pieces(only_tags(reading.pieces)))
+    return [DONE] + with_length(write_pieces(only_tags(reading.pieces)))
+
+
+def cut(start, to, t):
+    reading = read_row(t, start > to)
+    if len(reading.refusal) > 0:
+        return reading.refusal[:1]
+    if to > len(reading.pieces):
+        return [NOT_THERE]
+    return [DONE] + with_length(write_pieces(reading.pieces[start:to]))
+
+
+def unit(k, t):
+    reading = read_row(t, False)
+    if len(reading.refusal) > 0:
+        return reading.refusal[:1]
+    units = find_units(reading.pieces)
+    if k >= len(units):
+        return [NOT_THERE]
+    found = units[k]
+    return [DONE, found.group, found.tag_kind] + with_length(found.text)

@@ -4,6 +4,17 @@ import re
 
 from ferryrows import rows
 
+LARGEST = 4294967295
+
+SIGN_SPANS = [
+    (0x21, 0x2F), (0x3A, 0x40), (0x5B, 0x60), (0x7B, 0x7E), (0xA1, 0xBF),
+    (0xD7, 0xD7), (0xF7, 0xF7), (0x2010, 0x206F), (0x3000, 0x303F),
+]
+# The first and the last of each span and their neighbours, as far as they are characters but no blanks.
+SIGN_EDGES = [0x21, 0x2F, 0x30, 0x39, 0x3A, 0x40, 0x41, 0x5A, 0x5B, 0x60, 0x61, 0x7A, 0x7B, 0x7E, 0xA0, 0xA1, 0xBF]
+SIGN_EDGES += [0xC0, 0xD6, 0xD7, 0xD8, 0xF6, 0xF7, 0xF8, 0x200F, 0x2010, 0x206F, 0x2070, 0x2FFF, 0x3000, 0x303F, 0x3040]
+SOME_CHARACTERS = ["a", "B", "7", " ", ".", "}", "{{", "\u00a0", "\u00e9", "\u00bf", "\u2010", "\u20ac", "\U0001f600"]
+
 WHATS = {
     "pieces": 0,
     "characters": 1,
@@ -47,6 +58,10 @@ def is_character(code):
     return code & 0xFFFF not in (0xFFFE, 0xFFFF)
 
 
+def is_sign(code):
+    return any(low <= code <= high for low, high in SIGN_SPANS)
+
+
 def pieces_of(text):
     """The pieces of a row, each as its text; the text must be a row's."""
     return re.findall(r"\{\{|\{[-+.][0-9]+\}|[^{]", text)
@@ -54,6 +69,25 @@ def pieces_of(text):
 
 def tag(kind, number):
     return f"{{{kind}{number}}}"
+
+
+def drawn_paired_row(chosen, length):
+    """The pieces of a paired row, each as its text, drawn from a given source."""
+    numbers = chosen.sample(range(1, 1000), length)
+    pieces = []
+    pile = []
+    for number in numbers:
+        turn = chosen.randrange(6)
+        if turn == 0:
+            pile.append(number)
+            pieces.append(tag("+", number))
+        elif turn == 1 and pile:
+            pieces.append(tag("-", pile.pop()))
+        elif turn == 2:
+            pieces.append(tag(".", number))
+        else:
+            pieces.append(chosen.choice(SOME_CHARACTERS))
+    return pieces + [tag("-", number) for number in reversed(pile)]
 
 
 def row(text):
@@ -75,3 +109,21 @@ def form(text):
 
 def tags(text):
     return called(rows.tags, as_bytes(text))
+
+
+def cut(start, to, text):
+    return called(rows.cut, start, to, as_bytes(text))
+
+
+def unit(k, text):
+    return called(rows.unit, k, as_bytes(text))
+
+
+def units_of(text):
+    """What unit answers for k from 0 on, up to the first k that is refused."""
+    answers = [unit(0, text)]
+    while answers[-1][0] == 0:
+        answers.append(unit(len(answers), text))
+    if answers.pop() != [-2]:
+        raise AssertionError(f"a unit is refused otherwise than by -2: {text!r}")
+    return answers

@@ -2,12 +2,8 @@
 
 import unittest
 
-from support import ask, asked
+from support import SIGN_EDGES, asked, is_sign
 
-SIGN_SPANS = [
-    (0x21, 0x2F), (0x3A, 0x40), (0x5B, 0x60), (0x7B, 0x7E), (0xA1, 0xBF),
-    (0xD7, 0xD7), (0xF7, 0xF7), (0x2010, 0x206F), (0x3000, 0x303F),
-]
 CROSSING = "{+1}{+2}{-1}{-2}"
 
 
@@ -54,12 +50,9 @@ class Counts(unittest.TestCase):
         self.assert_counts("\u00a0", 1, 1, 0, 1, 1)
 
     def test_each_edge_of_the_signs(self):
-        edges = [(low + d, high + e) for low, high in SIGN_SPANS for d, e in [(0, 0), (-1, 1)]]
-        for code in sorted({code for pair in edges for code in pair}):
-            if code == 0x20 or 0x7F <= code <= 0x9F:
-                continue
+        for code in SIGN_EDGES:
             character = "{{" if code == 0x7B else chr(code)
-            if any(low <= code <= high for low, high in SIGN_SPANS):
+            if is_sign(code):
                 self.assert_counts(f"a{character}b{character}", 4, 4, 0, 2, 4)
             else:
                 self.assert_counts(f"a{character}b{character}", 4, 4, 0, 1, 1)

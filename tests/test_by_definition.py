@@ -9,7 +9,7 @@ import random
 import re
 import unittest
 
-from support import asked, is_character, row
+from support import asked, is_character, is_sign, row
 
 
 def piece_texts():
@@ -17,7 +17,7 @@ def piece_texts():
     texts = {}
     for code in range(0x110000):
         if is_character(code):
-            letter = " " if code == 0x20 else "s" if SIGN.fullmatch(chr(code)) else "w"
+            letter = " " if code == 0x20 else "s" if is_sign(code) else "w"
             texts[b"{{" if code == 0x7B else chr(code).encode("utf-8")] = letter
     for kind in "+-.":
         for number in range(1, 1000):
@@ -25,9 +25,6 @@ def piece_texts():
     return texts
 
 
-SIGN = re.compile(
-    "[\u0021-\u002f\u003a-\u0040\u005b-\u0060\u007b-\u007e\u00a1-\u00bf\u00d7\u00f7\u2010-\u206f\u3000-\u303f]"
-)
 PIECES = piece_texts()
 BEGINNINGS = {text[:length] for text in PIECES for length in range(1, len(text))}
 

@@ -10,6 +10,8 @@ PARAMETERS = {
     "ask": ["what", "t"],
     "form": ["t"],
     "tags": ["t"],
+    "cut": ["start", "to", "t"],
+    "unit": ["k", "t"],
 }
 
 

@@ -1,8 +1,9 @@
 """The refusals of the calls over rows, in their order, and that a call stands by itself."""
 
+import functools
 import unittest
 
-from support import answered, ask, asked, as_bytes, called, form, row, tags
+from support import LARGEST, answered, ask, asked, as_bytes, called, cut, form, row, tag, tags, unit
 from ferryrows import rows
 
 MOST_BYTES = 65536
@@ -12,7 +13,8 @@ NO_ROWS = [b"\x00", b"{", b"ab{x", b"{+1", b"{.1000}", b"{-0}", b"\xc2\x80", b"a
 
 # Every call over one row's text, with the numbers that are handed in ahead of it.
 CALLS = [(rows.row, [])] + [(rows.ask, [what]) for what in range(10)]
-CALLS += [(rows.form, []), (rows.tags, [])]
+CALLS += [(rows.form, []), (rows.tags, []), (rows.cut, [0, 0]), (rows.cut, [0, 1]), (rows.cut, [1, 0])]
+CALLS += [(rows.unit, [0]), (rows.unit, [LARGEST])]
 
 
 def every_answer(text):
@@ -74,7 +76,10 @@ class Refusals(unittest.TestCase):
 
 
 class RefusalsOfTexts(unittest.TestCase):
-    """The calls that take a row's text and no number."""
+    """The calls that tell no place behind -5, with numbers that alone would give no refusal, or -2 at the end."""
+
+    CALLS = [form, tags, functools.partial(cut, 0, 0), functools.partial(cut, 0, LARGEST)]
+    CALLS += [functools.partial(unit, 0), functools.partial(unit, LARGEST)]
 
     def test_the_most_pieces(self):
         for piece in PIECES:
@@ -82,25 +87,30 @@ class RefusalsOfTexts(unittest.TestCase):
             is_tag = piece == "{.999}"
             self.assertEqual(form(text), answered(text.replace("999", "1")))
             self.assertEqual(tags(text), answered(text if is_tag else ""))
+            self.assertEqual(cut(0, MOST_PIECES, text), answered(text))
+            self.assertEqual(cut(0, MOST_PIECES + 1, text), [-2])
+            self.assertEqual(unit(MOST_PIECES, text), [-2])
+        self.assertEqual(unit(MOST_PIECES - 1, "{.999}" * MOST_PIECES), [0, 2, 2, 1, 0x31])
+        self.assertEqual(unit(0, "a" * MOST_PIECES), [0, 0, 0] + answered("a" * MOST_PIECES)[1:])
 
     def test_one_piece_too_many(self):
         for piece in PIECES:
-            for call in [form, tags]:
+            for call in self.CALLS:
                 self.assertEqual(call(piece * (MOST_PIECES + 1)), [-6])
 
     def test_no_row_alone(self):
         for text in NO_ROWS:
-            for call in [form, tags]:
+            for call in self.CALLS:
                 self.assertEqual(call(text), [-5])
                 self.assertEqual(call(b"a{.1}" + text), [-5])
 
     def test_no_row_ahead_of_too_many_pieces(self):
         for text in NO_ROWS:
-            for call in [form, tags]:
+            for call in self.CALLS:
                 self.assertEqual(call(b"a" * (MOST_PIECES + 1) + text), [-5])
 
     def test_the_most_bytes_are_read(self):
-        for call in [form, tags]:
+        for call in self.CALLS:
             self.assertEqual(call(b"a" * MOST_BYTES), [-6])
             self.assertEqual(call(b"a" * (MOST_BYTES - 1) + b"\x00"), [-5])
             self.assertEqual(call(b"\x00" * MOST_BYTES), [-5])
@@ -108,8 +118,36 @@ class RefusalsOfTexts(unittest.TestCase):
     def test_too_many_bytes_ahead_of_all(self):
         for number in [MOST_BYTES + 1, 100000]:
             for text in [b"a" * number, b"\x00" * number, b"a" * (number - 1) + b"{"]:
-                for call in [form, tags]:
+                for call in self.CALLS:
                     self.assertEqual(call(text), [-6])
+
+
+class RefusalsOfCut(unittest.TestCase):
+    ABOVE = [(1, 0), (2, 1), (4097, 4096), (LARGEST, 0), (LARGEST, LARGEST - 1)]
+
+    def test_start_above_to(self):
+        for start, to in self.ABOVE:
+            for text in ["", "a", "abc", "{.1}" * 5]:
+                self.assertEqual(cut(start, to, text), [-1])
+
+    def test_too_many_bytes_ahead_of_start_above_to(self):
+        for start, to in self.ABOVE:
+            for text in [b"a" * (MOST_BYTES + 1), b"\x00" * 100000]:
+                self.assertEqual(cut(start, to, text), [-6])
+
+    def test_start_above_to_ahead_of_no_row_and_of_too_many_pieces(self):
+        for start, to in self.ABOVE:
+            for text in NO_ROWS + [b"\x00" * MOST_BYTES, b"a" * (MOST_PIECES + 1), b"a" * 5000 + b"{"]:
+                self.assertEqual(cut(start, to, text), [-1])
+
+    def test_too_many_pieces_ahead_of_to_above_their_number(self):
+        for to in [0, MOST_PIECES, MOST_PIECES + 1, MOST_PIECES + 2, LARGEST]:
+            self.assertEqual(cut(0, to, "a" * (MOST_PIECES + 1)), [-6])
+
+    def test_no_row_ahead_of_to_above_the_number_of_pieces(self):
+        for text in NO_ROWS:
+            self.assertEqual(cut(0, LARGEST, text), [-5])
+            self.assertEqual(cut(LARGEST, LARGEST, text), [-5])
 
 
 class EachCallByItself(unittest.TestCase):
@@ -132,13 +170,17 @@ class EachCallByItself(unittest.TestCase):
                 self.assertEqual(call(*numbers, given), before)
 
     def test_no_call_nests_with_its_input(self):
-        nested = "".join("{+%d}" % n for n in range(1, 1000)) + "".join("{-%d}" % n for n in range(999, 0, -1))
+        numbers = list(range(1, 1000))
+        nested = "".join([tag("+", n) for n in numbers] + [tag("-", n) for n in reversed(numbers)])
         self.assertEqual(row(nested), [1998])
         self.assertEqual(ask("paired", nested), [1])
         self.assertEqual(row("a" * 4096), [4096])
         self.assertEqual(ask("words", "a " * 2048), [2048])
         self.assertEqual(form(nested), answered(nested))
         self.assertEqual(tags(nested), answered(nested))
+        self.assertEqual(cut(0, 1998, nested), answered(nested))
+        self.assertEqual(cut(998, 1000, nested), answered("{+999}{-999}"))
+        self.assertEqual(unit(1997, nested), [0, 2, 1, 1, 0x31])
 
 
 if __name__ == "__main__":
