@@ -60,8 +60,8 @@ class Scan:
     def peek(self):
         return self.t[self.at] if self.at < len(self.t) else NO_BYTE
 
-    # Whoever takes a byte names just the bytes with which some row's text
-    # goes on; so the first one that can't be taken is the fault.
+    # Whoever takes a byte names just the bytes with which some text of its
+    # sort goes on; so the first one that can't be taken is the fault.
     def take(self, low, high):
         byte = self.peek()
         if not low <= byte <= high:
@@ -121,12 +121,20 @@ def take_piece(scan):
     return take_tag(scan)
 
 
-def read_pieces(t):
+def read_each(t, take_one):
     scan = Scan(t)
-    pieces = []
+    found = []
     while scan.peek() != NO_BYTE:
-        pieces.append(take_piece(scan))
-    return pieces
+        found.append(take_one(scan))
+    return found
+
+
+def read_pieces(t):
+    return read_each(t, take_piece)
+
+
+def read_characters(t):
+    return read_each(t, take_character)
 
 
 def tail_byte(code):

@@ -71,6 +71,31 @@ def tag(kind, number):
     return f"{{{kind}{number}}}"
 
 
+def halves_of(tags):
+    """The numbers of the left and the right halves, or None of a row that isn't straight.
+
+    tags: pairs of + - . and a number. Told by striking out an open and its close that stand side by side.
+    """
+    if len(set(tags)) < len(tags):
+        return None
+    for kind, number in tags:
+        if kind == "." and (("+", number) in tags or ("-", number) in tags):
+            return None
+        if kind == "+" and ("-", number) in tags[:tags.index((kind, number))]:
+            return None
+    rest = [pair for pair in tags if pair[0] != "."]
+    place = 0
+    while place + 1 < len(rest):
+        if rest[place][0] == "+" and rest[place + 1] == ("-", rest[place][1]):
+            del rest[place:place + 2]
+            place = 0
+        else:
+            place += 1
+    if not re.fullmatch("-*[+]*", "".join(kind for kind, number in rest)):
+        return None
+    return ([number for kind, number in rest if kind == "-"], [number for kind, number in rest if kind == "+"])
+
+
 def drawn_paired_row(chosen, length):
     """The pieces of a paired row, each as its text, drawn from a given source."""
     numbers = chosen.sample(range(1, 1000), length)
@@ -127,3 +152,11 @@ def units_of(text):
     if answers.pop() != [-2]:
         raise AssertionError(f"a unit is refused otherwise than by -2: {text!r}")
     return answers
+
+
+def fits(segment, target):
+    return called(rows.fits, as_bytes(segment), as_bytes(target))
+
+
+def doc(text):
+    return called(rows.doc, as_bytes(text))

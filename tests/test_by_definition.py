@@ -1,7 +1,7 @@
 """row and ask held against the document's definitions, over many texts.
 
 What a row's text is, is built here from all texts of single pieces and what
-begins them; nothing is decoded. Straightness is told by striking out pairs.
+begins them; nothing is decoded.
 """
 
 import itertools
@@ -9,7 +9,7 @@ import random
 import re
 import unittest
 
-from support import asked, is_character, is_sign, row
+from support import asked, halves_of, is_character, is_sign, row
 
 
 def piece_texts():
@@ -43,32 +43,11 @@ def by_definition(text):
     return len(text) if begun else letters
 
 
-def halves_by_definition(tags):
-    """The numbers of left and right halves, or None of a row that isn't straight."""
-    if len(set(tags)) < len(tags):
-        return None
-    for kind, number in tags:
-        if kind == "." and (("+", number) in tags or ("-", number) in tags):
-            return None
-        if kind == "+" and ("-", number) in tags[:tags.index((kind, number))]:
-            return None
-    rest = [tag for tag in tags if tag[0] != "."]
-    place = 0
-    while place + 1 < len(rest):
-        if rest[place][0] == "+" and rest[place + 1] == ("-", rest[place][1]):
-            del rest[place:place + 2]
-            place = 0
-        else:
-            place += 1
-    kinds = "".join(kind for kind, number in rest)
-    return (kinds.count("-"), kinds.count("+")) if re.fullmatch("-*[+]*", kinds) else None
-
-
 def judged_by_definition(tags):
-    halves = halves_by_definition(tags)
+    halves = halves_of(tags)
     if halves is None:
         return [[0], [0], [0], [0]]
-    return [[1], [1 if halves == (0, 0) else 0], [halves[0]], [halves[1]]]
+    return [[1], [1 if halves == ([], []) else 0], [len(halves[0])], [len(halves[1])]]
 
 
 class ByDefinition(unittest.TestCase):

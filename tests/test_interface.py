@@ -12,6 +12,8 @@ PARAMETERS = {
     "tags": ["t"],
     "cut": ["start", "to", "t"],
     "unit": ["k", "t"],
+    "fits": ["s", "t"],
+    "doc": ["t"],
 }
 
 

@@ -3,7 +3,7 @@
 import functools
 import unittest
 
-from support import LARGEST, answered, ask, asked, as_bytes, called, cut, form, row, tag, tags, unit
+from support import LARGEST, answered, ask, asked, as_bytes, called, cut, fits, form, row, tag, tags, unit
 from ferryrows import rows
 
 MOST_BYTES = 65536
@@ -11,14 +11,15 @@ MOST_PIECES = 4096
 PIECES = ["a", "{{", "\u20ac", "\U0001f600", "{.999}"]
 NO_ROWS = [b"\x00", b"{", b"ab{x", b"{+1", b"{.1000}", b"{-0}", b"\xc2\x80", b"a\n", b"\xff"]
 
-# Every call over one row's text, with the numbers that are handed in ahead of it.
+# Every call over one text, with the numbers that are handed in ahead of it.
 CALLS = [(rows.row, [])] + [(rows.ask, [what]) for what in range(10)]
 CALLS += [(rows.form, []), (rows.tags, []), (rows.cut, [0, 0]), (rows.cut, [0, 1]), (rows.cut, [1, 0])]
-CALLS += [(rows.unit, [0]), (rows.unit, [LARGEST])]
+CALLS += [(rows.unit, [0]), (rows.unit, [LARGEST]), (rows.doc, [])]
 
 
 def every_answer(text):
-    return [called(call, *numbers, as_bytes(text)) for call, numbers in CALLS]
+    answers = [called(call, *numbers, as_bytes(text)) for call, numbers in CALLS]
+    return answers + [fits(text, text), fits("", text), fits(text, "")]
 
 
 class Refusals(unittest.TestCase):
@@ -150,9 +151,39 @@ class RefusalsOfCut(unittest.TestCase):
             self.assertEqual(cut(LARGEST, LARGEST, text), [-5])
 
 
+class RefusalsOfFits(unittest.TestCase):
+    TOO_MANY_BYTES = [b"a" * (MOST_BYTES + 1), b"\x00" * 100000]
+    TOO_MANY_PIECES = [b"a" * (MOST_PIECES + 1), b"{.1}" * (MOST_PIECES + 1), b"a" * MOST_BYTES]
+    GOOD = ["", "a", "{+1}", "{+1}{+1}", "a" * MOST_PIECES, "{.5}" * MOST_PIECES]
+
+    def every_refused(self):
+        refused = [(text, [-6]) for text in self.TOO_MANY_BYTES + self.TOO_MANY_PIECES]
+        refused += [(text, [-5]) for text in NO_ROWS + [b"\x00" * MOST_BYTES]]
+        return refused + [(b"a" * (MOST_PIECES + 1) + text, [-5]) for text in NO_ROWS]
+
+    def test_the_segment_is_refused(self):
+        for text, refusal in self.every_refused():
+            for good in self.GOOD:
+                self.assertEqual(fits(text, good), refusal)
+
+    def test_the_target_is_refused(self):
+        for text, refusal in self.every_refused():
+            for good in self.GOOD:
+                self.assertEqual(fits(good, text), refusal)
+
+    def test_the_segment_is_looked_at_for_all_refusals_before_the_target_is(self):
+        for segment, refusal in self.every_refused():
+            for target in [b"a" * (MOST_BYTES + 1), b"\x00", b"{", b"a" * (MOST_PIECES + 1)]:
+                self.assertEqual(fits(segment, target), refusal)
+
+    def test_the_most_pieces_and_bytes(self):
+        self.assertEqual(fits("a" * MOST_PIECES, "{{" * MOST_PIECES), [0])
+        self.assertEqual(fits("{.1}" + "a" * (MOST_PIECES - 1), "\U0001f600" * (MOST_PIECES - 1) + "{.1}"), [0])
+
+
 class EachCallByItself(unittest.TestCase):
     def test_nothing_is_kept_from_one_call_to_the_next(self):
-        texts = ["", "a b{+1}", "{-1}{+1}", b"\x00", b"{+", "{.1}{.1}", "{-1}", "{+1}", "a" * 5000]
+        texts = ["", "a b{+1}", "{-1}{+1}", b"\x00", b"{+", "{.1}{.1}", "{-1}", "{+1}", "a" * 5000, "|a\n>b\n", ">{+1}\n"]
         alone = [every_answer(text) for text in texts]
         for first in texts:
             for number, second in enumerate(texts):
@@ -160,7 +191,7 @@ class EachCallByItself(unittest.TestCase):
                 self.assertEqual(every_answer(second), alone[number])
 
     def test_an_answer_that_is_changed_changes_no_later_one(self):
-        for text in ["", "a", "a" * 5000, b"\x00", b"a" * 70000]:
+        for text in ["", "a", "a" * 5000, b"\x00", b"a" * 70000, "|a\n>b\n"]:
             given = as_bytes(text)
             for call, numbers in CALLS:
                 answer = call(*numbers, given)
@@ -168,6 +199,10 @@ class EachCallByItself(unittest.TestCase):
                 answer.append(77)
                 answer[0] = 77
                 self.assertEqual(call(*numbers, given), before)
+            answer = rows.fits(given, given)
+            before = list(answer)
+            answer[0] = 77
+            self.assertEqual(rows.fits(given, given), before)
 
     def test_no_call_nests_with_its_input(self):
         numbers = list(range(1, 1000))
