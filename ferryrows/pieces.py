@@ -80,7 +80,7 @@ def with_tail_byte(code, byte):
     return code * 64 + byte % 64
 
 
-def take_character(scan):
+def take_code(scan):
     if scan.peek() < 0x80:
         return scan.take(0x20, 0x7E)
     first = scan.take(0xC2, 0xF4)
@@ -93,6 +93,10 @@ def take_character(scan):
         high = 0xBD if code % 0x400 == 0x3FF else 0xBF
         code = with_tail_byte(code, scan.take(0x80, high))
     return code
+
+
+def take_character(scan):
+    return (CHARACTER, take_code(scan))
 
 
 def take_number(scan):
@@ -114,10 +118,10 @@ def take_tag(scan):
 
 def take_piece(scan):
     if scan.peek() != LEFT_BRACE:
-        return (CHARACTER, take_character(scan))
+        return take_character(scan)
     scan.take(LEFT_BRACE, LEFT_BRACE)
     if scan.peek() == LEFT_BRACE:
-        return (CHARACTER, scan.take(LEFT_BRACE, LEFT_BRACE))
+        return take_character(scan)
     return take_tag(scan)
 
 

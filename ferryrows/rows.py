@@ -122,6 +122,9 @@ QUESTIONS = (
     count_right_halves,
 )
 
+# In the order in which count answers them of all paragraphs together.
+COUNTED = (count_pieces, count_characters, count_tags, count_words)
+
 
 def read_behind_mark(is_paragraph, text, first):
     try:
@@ -254,3 +257,24 @@ def doc(t):
     if len(reading.refusal) > 0:
         return reading.refusal
     return [len(reading.parts)]
+
+
+def line(k, t):
+    reading = read_document(t)
+    if len(reading.refusal) > 0:
+        return reading.refusal[:1]
+    if k >= len(reading.parts):
+        return [NOT_THERE]
+    found = reading.parts[k]
+    return [DONE, 1 if found.is_paragraph else 0] + with_length(found.text)
+
+
+def count(t):
+    reading = read_document(t)
+    if len(reading.refusal) > 0:
+        return reading.refusal[:1]
+    paragraphs = [found.pieces for found in reading.parts if found.is_paragraph]
+    answer = [DONE, len(reading.parts), len(paragraphs)]
+    for tell in COUNTED:
+        answer.append(sum([tell(pieces) for pieces in paragraphs]))
+    return answer

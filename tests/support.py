@@ -67,6 +67,11 @@ def pieces_of(text):
     return re.findall(r"\{\{|\{[-+.][0-9]+\}|[^{]", text)
 
 
+def tags_in(text):
+    """The tags of a row, each as its text, in order."""
+    return [piece for piece in pieces_of(text) if piece[0] == "{" and piece != "{{"]
+
+
 def tag(kind, number):
     return f"{{{kind}{number}}}"
 
@@ -115,6 +120,17 @@ def drawn_paired_row(chosen, length):
     return pieces + [tag("-", number) for number in reversed(pile)]
 
 
+def drawn_document(chosen):
+    """A document's text of some raw lines and paragraphs, drawn from a given source."""
+    lines = []
+    for turn in range(chosen.randrange(8)):
+        if chosen.randrange(3) == 0:
+            lines.append("|" + "".join(chosen.choices("a B.{}\u00e9\u20ac\U0001f600", k=chosen.randrange(9))))
+        else:
+            lines.append(">" + "".join(drawn_paired_row(chosen, chosen.randrange(15))))
+    return "".join(text + "\n" for text in lines)
+
+
 def row(text):
     return called(rows.row, as_bytes(text))
 
@@ -160,3 +176,33 @@ def fits(segment, target):
 
 def doc(text):
     return called(rows.doc, as_bytes(text))
+
+
+def line(k, text):
+    return called(rows.line, k, as_bytes(text))
+
+
+def count(text):
+    return called(rows.count, as_bytes(text))
+
+
+def lines_of(text):
+    """A document's lines, as line tells them: whether each is a paragraph, and its bytes."""
+    told = []
+    for k in range(doc(text)[0]):
+        answer = line(k, text)
+        if answer[0] != 0 or answer[1] not in (0, 1) or answer[2] != len(answer) - 3:
+            raise AssertionError(f"no answer of line: {answer!r}")
+        told.append((answer[1] == 1, bytes(answer[3:])))
+    return told
+
+
+def drawn_target(chosen, segment):
+    """A target that fits a straight segment: its tags in an order that fits, with other characters."""
+    drawn = tags_in(segment)
+    for turn in range(20):
+        other = chosen.sample(drawn, len(drawn))
+        if fits(segment, "".join(other)) == [0]:
+            drawn = other
+            break
+    return "".join(chosen.choice(SOME_CHARACTERS) + piece for piece in drawn) + chosen.choice(SOME_CHARACTERS)

@@ -1,7 +1,8 @@
-"""row and ask held against the document's definitions, over many texts.
+"""A1: row, ask and doc held against the document's definitions, over many texts.
 
 What a row's text is, is built here from all texts of single pieces and what
-begins them; nothing is decoded.
+begins them; nothing is decoded. A document's fault is the first kind of all
+that hold of a line, each told by itself.
 """
 
 import itertools
@@ -9,7 +10,8 @@ import random
 import re
 import unittest
 
-from support import asked, halves_of, is_character, is_sign, row
+from support import answered, asked, cut, doc, drawn_document, halves_of
+from support import is_character, is_sign, lines_of, row, tags_in
 
 
 def piece_texts():
@@ -29,14 +31,17 @@ PIECES = piece_texts()
 BEGINNINGS = {text[:length] for text in PIECES for length in range(1, len(text))}
 
 
-def by_definition(text):
-    """The letters of a text's pieces, or the place of its fault."""
+def by_definition(text, is_raw=False):
+    """The letters of a text's pieces, or the place of its fault; a raw line's braces are characters."""
     letters = ""
     begun = b""
     for place, byte in enumerate(text):
         begun += bytes([byte])
         if begun in PIECES:
             letters += PIECES[begun]
+            begun = b""
+        elif is_raw and begun == b"{":
+            letters += "s"
             begun = b""
         elif begun not in BEGINNINGS:
             return place
@@ -48,6 +53,47 @@ def judged_by_definition(tags):
     if halves is None:
         return [[0], [0], [0], [0]]
     return [[1], [1 if halves == ([], []) else 0], [len(halves[0])], [len(halves[1])]]
+
+
+def is_paired(text):
+    tags = [(piece[1], piece[2:-1]) for piece in tags_in(text.decode("utf-8"))]
+    return halves_of(tuple(tags)) == ([], [])
+
+
+def faults_of_line(whole, start, number):
+    """Every kind of fault that holds of the line from start on, with its place."""
+    end = whole.find(b"\n", start)
+    text = whole[start:] if end < 0 else whole[start:end]
+    faults = {}
+    if number == 16384:
+        faults[6] = start
+    if text[:1] not in (b"|", b">"):
+        faults[1] = start
+        return faults
+    if end < 0:
+        faults[5] = len(whole)
+    letters = by_definition(text[1:], text[:1] == b"|")
+    if isinstance(letters, int):
+        faults[2] = start + 1 + letters
+    elif len(letters) > 4096:
+        faults[4] = start
+    if text[:1] == b">" and not isinstance(letters, int) and not is_paired(text[1:]):
+        faults[3] = start
+    return faults
+
+
+def document_by_definition(text):
+    """What doc answers."""
+    number = 0
+    start = 0
+    while start < len(text):
+        faults = faults_of_line(text, start, number)
+        for kind in (6, 1, 5, 2, 4, 3):
+            if kind in faults:
+                return [-5, kind, faults[kind]]
+        number += 1
+        start = text.index(b"\n", start) + 1
+    return [number]
 
 
 class ByDefinition(unittest.TestCase):
@@ -121,6 +167,66 @@ class ByDefinition(unittest.TestCase):
             tags = tuple(tags[:chosen.randrange(4, 9)])
             text = "".join(f"{{{kind}{number}}}" for kind, number in tags)
             self.assertEqual(asked(text)[5:], judged_by_definition(tags), text)
+
+
+class OneTextOneFirstFault(unittest.TestCase):
+    """Every text of a few bytes, or of a few stretches of bytes."""
+
+    BYTES = b"|>\n{+1}a\xc3\xa9\x00"
+    STRETCHES = [b"|", b">", b"\n", b"{+1}", b"{-1}", b"{.2}", b"{", b"{{", b"}", b"a ", b"\xc3", b"\xa9", b"\x7f"]
+
+    def assert_document(self, text):
+        expected = document_by_definition(text)
+        answer = doc(text)
+        if answer != expected:
+            self.fail(f"{text!r}: {answer}, not {expected}")
+        if expected[0] >= 0:
+            whole = b"".join((b">" if told else b"|") + behind + b"\n" for told, behind in lines_of(text))
+            self.assertEqual(whole, text)
+
+    def assert_row(self, text):
+        letters = by_definition(text)
+        if isinstance(letters, int):
+            self.assertEqual(row(text), [-5, letters], text)
+        else:
+            self.assertEqual(row(text), [len(letters)], text)
+            self.assertEqual(cut(0, len(letters), text), answered(text))
+
+    def test_every_short_text_of_chosen_bytes(self):
+        for length in range(6):
+            for drawn in itertools.product(self.BYTES, repeat=length):
+                self.assert_row(bytes(drawn))
+                self.assert_document(bytes(drawn))
+
+    def test_every_short_text_of_chosen_stretches(self):
+        for length in range(5):
+            for drawn in itertools.product(self.STRETCHES, repeat=length):
+                text = b"".join(drawn)
+                self.assert_row(text)
+                self.assert_document(text)
+                self.assert_document(b">" + text + b"\n")
+                self.assert_document(b"|" + text + b"\n")
+
+    def test_drawn_documents_with_something_wrong(self):
+        chosen = random.Random(43)
+        for turn in range(3000):
+            text = drawn_document(chosen).encode("utf-8")
+            self.assert_document(text)
+            place = chosen.randrange(len(text) + 1)
+            self.assert_document(text[:place] + chosen.choice(self.STRETCHES) + text[place:])
+            self.assert_document(text[:place] + text[place + 1:])
+            self.assert_document(text[:place])
+
+    def test_drawn_large_documents(self):
+        chosen = random.Random(47)
+        large = [b"|" + b"a" * 4096 + b"\n", b">" + b"{{" * 4096 + b"\n", b"|" + b"{" * 4097 + b"\n"]
+        large += [b">" + b"{.1}" * 4097 + b"\n", b">{+1}" + b"a" * 4095 + b"\n", b">" + b"a" * 70000 + b"{\n"]
+        large += [b"|\n" * 16383, b">\n" * 16384, b"|" + b"a" * 5000, b"|\n", b">{+1}\n", b"\n", b"|\x00\n", b">a"]
+        for turn in range(60):
+            self.assert_document_answer(b"".join(chosen.choices(large, k=3))[:100000])
+
+    def assert_document_answer(self, text):
+        self.assertEqual(doc(text), document_by_definition(text), text[:60])
 
 
 if __name__ == "__main__":

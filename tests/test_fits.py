@@ -4,8 +4,7 @@ import itertools
 import random
 import unittest
 
-from support import SOME_CHARACTERS
-from support import answered, ask, cut, drawn_paired_row, fits, halves_of, pieces_of, tag, tags
+from support import answered, ask, cut, drawn_paired_row, drawn_target, fits, halves_of, pieces_of, tag, tags
 
 FITTING = [0]
 NOT_STRAIGHT = [1]
@@ -127,17 +126,6 @@ class Fits(unittest.TestCase):
             self.assertEqual(fits(written(some), written(other)), expected, (some, other))
         for answer in [FITTING, NOT_STRAIGHT, OTHER_HALVES]:
             self.assertGreater(answers.count(answer), 500)
-
-
-def drawn_target(chosen, segment):
-    """A target that fits a straight segment: its tags in an order that fits, with other characters."""
-    drawn = [piece for piece in pieces_of(segment) if piece[0] == "{" and piece != "{{"]
-    for turn in range(20):
-        other = chosen.sample(drawn, len(drawn))
-        if fits(segment, "".join(other)) == FITTING:
-            drawn = other
-            break
-    return "".join(chosen.choice(SOME_CHARACTERS) + piece for piece in drawn) + chosen.choice(SOME_CHARACTERS)
 
 
 class TargetsOfSegments(unittest.TestCase):

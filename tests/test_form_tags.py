@@ -5,7 +5,7 @@ import random
 import re
 import unittest
 
-from support import answered, ask, form, is_character, pieces_of, row, tag, tags
+from support import answered, ask, form, is_character, pieces_of, row, tag, tags, tags_in
 
 CHARACTERS = "a \u00e9\u00a0\u20ac\uffe6\U0001f600\U0010fffd}~{{{{"
 TWELVE = [7, 300, 12, 999, 1, 45, 10, 2, 100, 998, 33, 3]
@@ -17,16 +17,12 @@ def alone(numbers):
 
 def form_by_definition(text):
     """The text with its numbers renamed, each by its place among their first stands."""
-    numbers = list(dict.fromkeys(re.findall("[0-9]+", "".join(tags_by_definition(text)))))
+    numbers = list(dict.fromkeys(re.findall("[0-9]+", "".join(tags_in(text)))))
     renamed = [
-        piece[:2] + str(numbers.index(piece[2:-1]) + 1) + "}" if re.match(r"\{[^{]", piece) else piece
+        piece[:2] + str(numbers.index(piece[2:-1]) + 1) + "}" if piece[0] == "{" and piece != "{{" else piece
         for piece in pieces_of(text)
     ]
     return "".join(renamed)
-
-
-def tags_by_definition(text):
-    return [piece for piece in pieces_of(text) if re.match(r"\{[^{]", piece)]
 
 
 class Form(unittest.TestCase):
@@ -198,7 +194,7 @@ class ByDefinition(unittest.TestCase):
             chosen.shuffle(texts)
             text = "".join(texts)
             self.assertEqual(form(text), answered(form_by_definition(text)), text)
-            self.assertEqual(tags(text), answered("".join(tags_by_definition(text))), text)
+            self.assertEqual(tags(text), answered("".join(tags_in(text))), text)
 
 
 if __name__ == "__main__":

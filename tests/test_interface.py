@@ -14,6 +14,8 @@ PARAMETERS = {
     "unit": ["k", "t"],
     "fits": ["s", "t"],
     "doc": ["t"],
+    "line": ["k", "t"],
+    "count": ["t"],
 }
 
 

@@ -1,9 +1,10 @@
-"""The refusals of the calls over rows, in their order, and that a call stands by itself."""
+"""The refusals of the calls over texts, in their order, and that a call stands by itself."""
 
 import functools
 import unittest
 
-from support import LARGEST, answered, ask, asked, as_bytes, called, cut, fits, form, row, tag, tags, unit
+from support import LARGEST, answered, ask, asked, as_bytes, called
+from support import count, cut, doc, fits, form, line, row, tag, tags, unit
 from ferryrows import rows
 
 MOST_BYTES = 65536
@@ -15,6 +16,7 @@ NO_ROWS = [b"\x00", b"{", b"ab{x", b"{+1", b"{.1000}", b"{-0}", b"\xc2\x80", b"a
 CALLS = [(rows.row, [])] + [(rows.ask, [what]) for what in range(10)]
 CALLS += [(rows.form, []), (rows.tags, []), (rows.cut, [0, 0]), (rows.cut, [0, 1]), (rows.cut, [1, 0])]
 CALLS += [(rows.unit, [0]), (rows.unit, [LARGEST]), (rows.doc, [])]
+CALLS += [(rows.line, [0]), (rows.line, [1]), (rows.line, [LARGEST]), (rows.count, [])]
 
 
 def every_answer(text):
@@ -181,6 +183,32 @@ class RefusalsOfFits(unittest.TestCase):
         self.assertEqual(fits("{.1}" + "a" * (MOST_PIECES - 1), "\U0001f600" * (MOST_PIECES - 1) + "{.1}"), [0])
 
 
+class RefusalsOfLineAndCount(unittest.TestCase):
+    NO_DOCUMENTS = [b"\n", b"x\n", b"|", b">a", b"|\x00\n", b"|\xc3\n", b">{\n", b">{x\n", b">{+1}\n", b">{.1}{.1}\n"]
+    NO_DOCUMENTS += [b"|" + b"a" * 4097 + b"\n", b">" + b"a" * 4097 + b"\n", b">" + b"a" * 65537 + b"\n"]
+    NO_DOCUMENTS += [b"|\n" * 16385, b"\x00" * 100000]
+
+    def test_no_document_alone(self):
+        for text in self.NO_DOCUMENTS:
+            self.assertEqual(doc(text)[0], -5)
+            self.assertEqual(len(doc(text)), 3)
+            self.assertEqual(count(text), [-5])
+            for k in [0, 1, LARGEST]:
+                self.assertEqual(line(k, text), [-5])
+
+    def test_no_document_also_where_the_line_stands_before_the_fault(self):
+        for text in self.NO_DOCUMENTS[:-2]:
+            head = b"|a\n>b\n|c\n"
+            self.assertEqual(doc(head + text)[0], -5)
+            self.assertEqual(count(head + text), [-5])
+            for k in [0, 1, 2, 3, 4, LARGEST]:
+                self.assertEqual(line(k, head + text), [-5])
+
+    def test_more_bytes_than_a_document_has(self):
+        text = b"\x00" * 262145
+        self.assertEqual([doc(text), line(0, text), count(text)], [[-6], [-6], [-6]])
+
+
 class EachCallByItself(unittest.TestCase):
     def test_nothing_is_kept_from_one_call_to_the_next(self):
         texts = ["", "a b{+1}", "{-1}{+1}", b"\x00", b"{+", "{.1}{.1}", "{-1}", "{+1}", "a" * 5000, "|a\n>b\n", ">{+1}\n"]
@@ -216,6 +244,11 @@ class EachCallByItself(unittest.TestCase):
         self.assertEqual(cut(0, 1998, nested), answered(nested))
         self.assertEqual(cut(998, 1000, nested), answered("{+999}{-999}"))
         self.assertEqual(unit(1997, nested), [0, 2, 1, 1, 0x31])
+        self.assertEqual(fits(nested, nested), [0])
+        document = ">" + nested + "\n" + "|\n" * 16383
+        self.assertEqual(doc(document), [16384])
+        self.assertEqual(line(0, document), [0, 1] + answered(nested)[1:])
+        self.assertEqual(count(document), [0, 16384, 1, 1998, 0, 1998, 0])
 
 
 if __name__ == "__main__":
